@@ -3,10 +3,7 @@
 The functions for the modes take a value of the second picture, that of the top, and the top's alpha value.
 """
 
-
-def rounded_quotient(dividend, divisor):
-    """The nearest integer to the quotient, and the greater one of two that are equally near."""
-    return (2 * dividend + divisor) // (2 * divisor)
+from glowtiles.rounding import rounded_quotient
 
 
 def added(below, above, alpha):

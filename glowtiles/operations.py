@@ -4,7 +4,10 @@ An operation takes the state and the numbers of its call, and gives back the num
 """
 
 from glowtiles.blurring import blurred_picture
+from glowtiles.colouring import mixed_picture, stretched_picture
+from glowtiles.dithering import picture_bytes, picture_words
 from glowtiles.joining import joined_picture
+from glowtiles.lighting import lit_picture
 from glowtiles.noise import noise_picture
 from glowtiles.painting import boxed_picture, covered_places, flat_picture, glowing_picture, squared_distances
 from glowtiles.refusals import NoStack, OutOfRange, Refusal, StackFull, TooFewPictures
@@ -108,6 +111,68 @@ def join_two(state, numbers):
     return put_picture(state, 2, joined_picture(state.pictures[-2], state.pictures[-1], numbers[0]))
 
 
+def stretch_top(state, numbers):
+    require_ranges(numbers, ((0, 65535), (0, 65535)))
+    low = numbers[0]
+    high = numbers[1]
+    if low >= high:
+        raise OutOfRange()
+    require_pictures(state, 1)
+    return put_picture(state, 1, stretched_picture(state.pictures[-1], low, high))
+
+
+def mix_top(state, numbers):
+    require_pictures(state, 1)
+    return put_picture(state, 1, mixed_picture(state.pictures[-1], numbers))
+
+
+def light_top(state, numbers):
+    require_ranges(numbers, ((-256, 256), (-256, 256), (0, 4096)))
+    require_pictures(state, 1)
+    lx = numbers[0]
+    ly = numbers[1]
+    strength = numbers[2]
+    return put_picture(state, 1, lit_picture(state.pictures[-1], state.width, state.height, lx, ly, strength))
+
+
+def push_copy(state, numbers):
+    require_ranges(numbers, ((0, len(state.pictures) - 1),))
+    require_room(state)
+    # The very same picture may stand there twice, since none is changed once it is made.
+    return put_picture(state, 0, state.pictures[-1 - numbers[0]])
+
+
+def swap_two(state, numbers):
+    require_pictures(state, 2)
+    state.pictures = state.pictures[:-2] + [state.pictures[-1], state.pictures[-2]]
+    return [len(state.pictures)]
+
+
+def drop_top(state, numbers):
+    require_pictures(state, 1)
+    state.pictures = state.pictures[:-1]
+    return [len(state.pictures)]
+
+
+def read_pixel(state, numbers):
+    require_ranges(numbers, ((0, state.width - 1), (0, state.height - 1)))
+    require_pictures(state, 1)
+    place = numbers[1] * state.width + numbers[0]
+    return [0] + [plane[place] for plane in state.pictures[-1]]
+
+
+def read_bytes(state, numbers):
+    require_pictures(state, 1)
+    channels = picture_bytes(state.pictures[-1], state.width)
+    return [len(channels)] + channels
+
+
+def read_words(state, numbers):
+    require_pictures(state, 1)
+    words = picture_words(state.pictures[-1], state.width)
+    return [len(words)] + words
+
+
 # For each call how many numbers follow its own, and what is done.
 OPERATIONS = {
     1: (2, open_stack),
@@ -119,6 +184,15 @@ OPERATIONS = {
     7: (2, turn_top),
     8: (1, bend_second),
     9: (1, join_two),
+    10: (2, stretch_top),
+    11: (12, mix_top),
+    12: (3, light_top),
+    13: (1, push_copy),
+    14: (0, swap_two),
+    15: (0, drop_top),
+    16: (2, read_pixel),
+    17: (0, read_bytes),
+    18: (0, read_words),
 }
 
 

@@ -1,4 +1,7 @@
-"""What the tests share: a second, plain writing of the document's formulas, and ways to look at the program's state."""
+"""What the tests share: a second, plain writing of the document's formulas, and ways to ask the program.
+
+Most of what is here goes through `answers` alone; `play` and what takes its state look into the program.
+"""
 
 from glowtiles.operations import perform
 from glowtiles.state import State
@@ -8,8 +11,14 @@ LEAST = -2147483648
 MOST = 2147483647
 
 OPEN, FLAT, NOISE, GLOW, BOX, BLUR, TURN, BEND, JOIN = range(1, 10)
+LEVELS, COLOUR, LIGHT, COPY, SWAP, DROP, PIXEL, READ_BYTES, READ_WORDS = range(10, 19)
 
-# For each call with ranges, one tuple (least, most) for each argument that has one.
+# The calls that push a picture, those that need two, and those that need one.
+PUSHING = (FLAT, NOISE, COPY)
+TAKING_TWO = (BEND, JOIN, SWAP)
+TAKING_ONE = (GLOW, BOX, BLUR, TURN, LEVELS, COLOUR, LIGHT, DROP, PIXEL, READ_BYTES, READ_WORDS)
+
+# For each call with fixed ranges, one tuple (least, most) for each argument that has one.
 RANGES = {
     OPEN: ((2, 6), (2, 6)),
     NOISE: ((0, 65535), (0, 6), (1, 7), (0, 65535)),
@@ -19,6 +28,8 @@ RANGES = {
     TURN: ((-65536, 65536), (-65536, 65536)),
     BEND: ((-8192, 8192),),
     JOIN: ((0, 7),),
+    LEVELS: ((0, 65535), (0, 65535)),
+    LIGHT: ((-256, 256), (-256, 256), (0, 4096)),
 }
 # A call of each kind that has nothing wrong with it.
 GOOD = {
@@ -31,12 +42,98 @@ GOOD = {
     TURN: (9000, -12000),
     BEND: (3000,),
     JOIN: (5,),
+    LEVELS: (9000, 40000),
+    COLOUR: (100, 200, -300, 4, -50, 60, 70, 8, 256, 0, -256, 90),
+    LIGHT: (30, -40, 200),
+    COPY: (0,),
+    SWAP: (),
+    DROP: (),
+    PIXEL: (1, 2),
+    READ_BYTES: (),
+    READ_WORDS: (),
 }
+
+# The table under "Dithering", a row for each y mod 4.
+THRESHOLDS = [[0, 8, 2, 10], [12, 4, 14, 6], [3, 11, 1, 9], [15, 7, 13, 5]]
 
 
 def flattened(calls):
     """The list that answers takes for calls written as tuples."""
     return [number for call in calls for number in call]
+
+
+def ask(calls):
+    """What `answers` gives for calls written as tuples: one list for each call."""
+    handed = flattened(calls)
+    assert 1 <= len(calls) <= 60 and len(handed) <= 780, "more than may be handed in"
+    given, told, place = answers(handed), [], 0
+    while place < len(given):
+        told.append(given[place + 1:place + 1 + given[place]])
+        place += 1 + given[place]
+    assert len(told) == len(calls) and all(told)
+    return told
+
+
+def size(calls):
+    """The width and the height of the pictures after the calls."""
+    opened = [call[1:] for call, told in zip(calls, ask(calls)) if call[0] == OPEN and told == [0]]
+    return 2 ** opened[-1][0], 2 ** opened[-1][1]
+
+
+def colours(calls, places):
+    """The channels of the pixels of the top at the places after the calls, as `answers` tells them."""
+    read = []
+    room = 60 - len(calls)
+    for start in range(0, len(places), room):
+        asked = [(PIXEL, x, y) for x, y in places[start:start + room]]
+        told = ask(calls + asked)[len(calls):]
+        assert all(answer[0] == 0 and len(answer) == 5 for answer in told), told
+        read.extend([tuple(answer[1:]) for answer in told])
+    return read
+
+
+def whole(calls):
+    """The channels of all pixels of the top after the calls, as rows."""
+    w, h = size(calls)
+    read = colours(calls, [(x, y) for y in range(h) for x in range(w)])
+    return [read[start:start + w] for start in range(0, w * h, w)]
+
+
+def greys(calls, number=0):
+    """One channel of all pixels of the top after the calls, as rows."""
+    return [[colour[number] for colour in row] for row in whole(calls)]
+
+
+def everything(calls):
+    """All pixels of all pictures after the calls, the top first, and the code that ends their dropping."""
+    pictures = []
+    drops = []
+    while (last := ask(calls + drops + [(DROP,)])[-1]) not in ([-4], [-7]):
+        pictures.append(whole(calls + drops))
+        drops.append((DROP,))
+    return pictures, last
+
+
+def painted(rows):
+    """The calls that push a picture with these colours as its pixels."""
+    first = rows[0][0]
+    boxes = [(BOX, x, y, 1, 1, *colour) for y, row in enumerate(rows) for x, colour in enumerate(row)
+             if colour != first]
+    return [(FLAT, *first)] + boxes
+
+
+def painted_grey(rows, alpha=65535):
+    """The calls that push a picture whose three colour channels have these values."""
+    return painted([[(value, value, value, alpha) for value in row] for row in rows])
+
+
+def first_number(call, count, pixels):
+    """The first number that a good call answers where there are so many pictures of so many pixels."""
+    if call in PUSHING:
+        return count + 1
+    if call in (BEND, JOIN, DROP):
+        return count - 1
+    return {OPEN: 0, PIXEL: 0, READ_BYTES: 4 * pixels, READ_WORDS: pixels}.get(call, count)
 
 
 def play(calls, state=None):
@@ -96,15 +193,29 @@ class Model:
         ranges = RANGES.get(number, ())
         if any(not low <= n <= high for n, (low, high) in zip(numbers, ranges)):
             return [-2]
-        if number == NOISE and (2 ** numbers[1] > self.w or 2 ** numbers[1] > self.h):
+        if not self.allowed(number, numbers):
             return [-2]
-        if number >= GLOW and len(self.stack) < (2 if number in (BEND, JOIN) else 1):
+        if len(self.stack or []) < (2 if number in TAKING_TWO else 1 if number in TAKING_ONE else 0):
             return [-4]
-        if number in (FLAT, NOISE) and len(self.stack) == 8:
+        if number in PUSHING and len(self.stack) == 8:
             return [-5]
-        doing = (self.open, self.flat, self.noise, self.glow, self.box, self.blur, self.turn, self.bend, self.join)
-        doing[number - 1](*numbers)
-        return [0 if number == OPEN else len(self.stack)]
+        doing = (self.open, self.flat, self.noise, self.glow, self.box, self.blur, self.turn, self.bend, self.join,
+                 self.levels, self.colour, self.light, self.copy, self.swap, self.drop, self.pixel, self.read_bytes,
+                 self.read_words)
+        told = doing[number - 1](*numbers)
+        return told if number in (PIXEL, READ_BYTES, READ_WORDS) else [0 if number == OPEN else len(self.stack)]
+
+    def allowed(self, number, numbers):
+        """What the arguments of some calls must keep to besides their fixed ranges."""
+        if number == NOISE:
+            return 2 ** numbers[1] <= self.w and 2 ** numbers[1] <= self.h
+        if number == LEVELS:
+            return numbers[0] < numbers[1]
+        if number == COPY:
+            return 0 <= numbers[0] < len(self.stack)
+        if number == PIXEL:
+            return 0 <= numbers[0] < self.w and 0 <= numbers[1] < self.h
+        return True
 
     def open(self, a, b):
         self.w, self.h, self.stack = 2 ** a, 2 ** b, []
@@ -201,12 +312,68 @@ class Model:
         self.stack.append(self.each(
             lambda x, y: [value(second[x, y][c], top[x, y][c], top[x, y][3]) for c in range(4)]))
 
+    def levels(self, low, high):
+        top = self.stack.pop()
+
+        def value(v):
+            return 0 if v <= low else 65535 if v >= high else nearest((v - low) * 65535, high - low)
+        self.stack.append(self.each(lambda x, y: [value(v) for v in top[x, y][:3]] + [top[x, y][3]]))
+
+    def colour(self, *matrix):
+        top = self.stack.pop()
+
+        def value(place, row):
+            r, g, b = top[place][:3]
+            m0, m1, m2, m3 = matrix[4 * row:4 * row + 4]
+            return clamp((m0 * r + m1 * g + m2 * b + 65536 * m3) // 256)
+        self.stack.append(self.each(lambda x, y: [value((x, y), row) for row in range(3)] + [top[x, y][3]]))
+
+    def light(self, lx, ly, n):
+        top = self.stack.pop()
+
+        def value(x, y):
+            dx = self.at(top, x + 1, y, 0) - self.at(top, x - 1, y, 0)
+            dy = self.at(top, x, y + 1, 0) - self.at(top, x, y - 1, 0)
+            return clamp(32768 + ((dx * lx + dy * ly) * n) // 65536)
+        self.stack.append(self.each(lambda x, y: [value(x, y)] * 3 + [top[x, y][3]]))
+
+    def copy(self, k):
+        self.stack.append(dict(self.stack[len(self.stack) - 1 - k]))
+
+    def swap(self):
+        top, second = self.stack.pop(), self.stack.pop()
+        self.stack += [top, second]
+
+    def drop(self):
+        self.stack.pop()
+
+    def pixel(self, x, y):
+        return [0] + self.stack[-1][x, y]
+
+    def dithered(self, x, y, c, n):
+        t = 2 ** n - 1
+        v = self.stack[-1][x, y][c]
+        q, r = v * t // 65535, ((v * t) % 65535) * 16 // 65535
+        return min(t, (16 * q + r + 15 - THRESHOLDS[y % 4][x % 4]) // 16)
+
+    def read_bytes(self):
+        read = [self.dithered(x, y, c, 8) for x, y in self.places() for c in range(4)]
+        return [4 * self.w * self.h] + read
+
+    def read_words(self):
+        read = [2048 * self.dithered(x, y, 0, 5) + 32 * self.dithered(x, y, 1, 6) + self.dithered(x, y, 2, 5)
+                for x, y in self.places()]
+        return [self.w * self.h] + read
+
+    def places(self):
+        return [(x, y) for y in range(self.h) for x in range(self.w)]
+
     def seen(self):
         """The same as the function seen tells of the program's state."""
         if self.stack is None:
             return self.w, self.h, None
-        places = [(x, y) for y in range(self.h) for x in range(self.w)]
-        return self.w, self.h, [[[picture[place][c] for place in places] for c in range(4)] for picture in self.stack]
+        return self.w, self.h, [[[picture[place][c] for place in self.places()] for c in range(4)]
+                                for picture in self.stack]
 
 
 def check_against_model(test, calls):

@@ -2,7 +2,7 @@
 
 import unittest
 
-from glowtiles.joining import rounded_quotient
+from glowtiles.rounding import rounded_quotient
 from helper import FLAT, JOIN, NOISE, OPEN, TURN, channel, check_against_model, pixel, play, put_top
 
 VALUES = (0, 1, 2, 255, 32767, 32768, 40000, 65534, 65535)

@@ -1,10 +1,10 @@
-"""The calls open, flat, glow and box, the order of the stack, and all nine calls one behind another."""
+"""The calls open, flat, glow and box, the order of the stack, and all the calls one behind another."""
 
 import random
 import unittest
 
-from helper import (BEND, BLUR, BOX, FLAT, GLOW, JOIN, NOISE, OPEN, RANGES, TURN, channel, check_against_model,
-                    pixel, play, put_top, seen)
+from helper import (BEND, BLUR, BOX, COLOUR, COPY, DROP, FLAT, GLOW, JOIN, LEVELS, LIGHT, NOISE, OPEN, PIXEL, RANGES,
+                    READ_BYTES, READ_WORDS, SWAP, TURN, channel, check_against_model, pixel, play, put_top, seen)
 
 
 class Open(unittest.TestCase):
@@ -166,7 +166,8 @@ class Box(unittest.TestCase):
 
 
 class OneBehindAnother(unittest.TestCase):
-    kinds = (FLAT, NOISE, NOISE, NOISE, GLOW, BOX, BLUR, TURN, BEND, JOIN)
+    kinds = (FLAT, NOISE, NOISE, NOISE, GLOW, BOX, BLUR, TURN, BEND, JOIN, LEVELS, COLOUR, LIGHT, COPY, COPY, SWAP,
+             DROP, PIXEL, READ_BYTES, READ_WORDS)
 
     def call(self, drawn):
         number = drawn.choice(self.kinds)
@@ -177,12 +178,25 @@ class OneBehindAnother(unittest.TestCase):
             numbers[drawn.randrange(len(numbers))] = drawn.choice((-2147483648, 2147483647))
         if number in (FLAT, GLOW, BOX):
             numbers += [drawn.choice((0, 65535, drawn.randrange(65536))) for channel_number in range(4)]
+        if number == LEVELS and drawn.random() < 0.9:
+            numbers.sort()
+        if number == COLOUR:
+            # Small ones too, or nearly all results would be clamped.
+            numbers = [drawn.choice((-32768, 32767, 0, 256, drawn.randint(-300, 300), drawn.randint(-300, 300)))
+                       for place in range(12)]
+        if number == COPY:
+            numbers = [drawn.choice((0, 0, 1, 1, 2, 3, -1, 7))]
+        if number == PIXEL:
+            numbers = [drawn.randint(-1, 16), drawn.randint(-1, 16)]
         return (number, *numbers)
 
     def test_against_the_model(self):
         drawn = random.Random(20)
-        for again in range(60):
-            calls = [(OPEN, drawn.randint(2, 4), drawn.randint(2, 4))] + [self.call(drawn) for k in range(14)]
+        for again in range(100):
+            # Some pictures to begin with, or most of the calls would find too few.
+            noises = [(NOISE, drawn.randrange(65536), 2, 3, 50000) for k in range(drawn.randint(1, 6))]
+            calls = [(OPEN, drawn.randint(2, 4), drawn.randint(2, 4))] + noises
+            calls += [self.call(drawn) for k in range(18)]
             check_against_model(self, calls)
 
     def test_all_values_stay_in_range_and_there_are_never_more_than_eight_pictures(self):
